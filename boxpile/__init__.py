@@ -1,0 +1,1 @@
+"""Boxpile: boxes that point, freed by counting and by trial."""
