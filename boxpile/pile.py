@@ -86,6 +86,18 @@ class Pile:
         """The numbers of all boxes that were let go and are alive yet, rising."""
         return [number for number in sorted(self._boxes) if self._boxes[number].suspect]
 
+    def clear_away(self, numbers):
+        """What a tidy ends with: these boxes are freed, all at once, and no box is a suspect any more."""
+        for number in numbers:
+            for pointed in self._boxes[number].slots:
+                if pointed is not None:
+                    box = self._boxes[pointed]
+                    box.weight -= 1
+        for number in numbers:
+            del self._boxes[number]
+        for box in self._boxes.values():
+            box.suspect = False
+
     def _box(self, number):
         if number not in self._boxes:
             raise NoBox("no box of this number is alive")
@@ -97,8 +109,7 @@ class Pile:
         if number is None:
             raise NoBox("the hand holds no box")
         slots = self._boxes[number].slots
-        if not 0 <= slot < len(slots):
-            raise NoSlot("the box has no such slot")
+        check_slot(slots, slot)
         return slots
 
     def _point(self, pointers, at, number):
@@ -134,3 +145,9 @@ def check_hand(hand):
     """Refuse what is no hand."""
     if not 0 <= hand < HANDS:
         raise NoHand("hands are numbered 0 to 7")
+
+
+def check_slot(slots, slot):
+    """Refuse what is no slot of a box with these slots."""
+    if not 0 <= slot < len(slots):
+        raise NoSlot("the box has no such slot")

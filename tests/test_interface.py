@@ -3,7 +3,7 @@
 import inspect
 import unittest
 
-from boxpile import errors, pile
+from boxpile import errors, notes, pile, trial, ways
 from boxpile.pile import Pile
 
 METHODS = {
@@ -18,6 +18,11 @@ METHODS = {
     "weighs": ["self", "number"],
     "alive": ["self"],
     "suspects": ["self"],
+}
+FUNCTIONS = {
+    trial: {"reached": ["pile", "numbers"], "trials": ["pile"], "tidy": ["pile"]},
+    ways: {"come_to": ["pile"], "way_to": ["pile", "number"], "led": ["pile", "way"]},
+    notes: {"shown": ["deed"], "read": ["line"], "done": ["pile", "deed"], "played": ["lines"]},
 }
 
 
@@ -64,6 +69,29 @@ class PileTest(unittest.TestCase):
         self.assertEqual(boxes.holds(hand=1), 0)
         self.assertEqual(boxes.points(number=0), [None, None])
         self.assertEqual(boxes.weighs(number=0), 2)
+
+
+class FunctionsTest(unittest.TestCase):
+    def test_each_function_is_defined_in_its_file(self):
+        for module, functions in FUNCTIONS.items():
+            for name, arguments in functions.items():
+                with self.subTest(name):
+                    function = getattr(module, name)
+                    self.assertTrue(inspect.isfunction(function))
+                    self.assertEqual(function.__module__, module.__name__)
+                    self.assertEqual(list(inspect.signature(function).parameters), arguments)
+
+    def test_arguments_by_name(self):
+        boxes = Pile()
+        self.assertEqual(notes.done(pile=boxes, deed=notes.read(line="make 0 1")), [])
+        self.assertEqual(notes.shown(deed=("tidy",)), "tidy")
+        self.assertEqual(notes.played(lines=["tidy"]), ["frees none"])
+        self.assertEqual(trial.reached(pile=boxes, numbers=[0]), [0])
+        self.assertEqual(trial.trials(pile=boxes), [])
+        self.assertEqual(trial.tidy(pile=boxes), [])
+        self.assertEqual(ways.come_to(pile=boxes), [0])
+        self.assertEqual(ways.way_to(pile=boxes, number=0), [0])
+        self.assertEqual(ways.led(pile=boxes, way=[0]), 0)
 
 
 if __name__ == "__main__":

@@ -33,6 +33,7 @@ def bound(tree):
     names = {node.id for node in ast.walk(tree) if isinstance(node, ast.Name) and isinstance(node.ctx, ast.Store)}
     names |= {alias.asname or alias.name for node in ast.walk(tree)
               if isinstance(node, ast.ImportFrom) for alias in node.names}
+    names |= {node.name for node in ast.walk(tree) if isinstance(node, ast.MatchAs) and node.name}
     names |= {node.name for node in ast.walk(tree) if isinstance(node, (ast.FunctionDef, ast.ClassDef))}
     return names | {node.arg for node in ast.walk(tree) if isinstance(node, ast.arg)}
 
